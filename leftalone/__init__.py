@@ -1,0 +1,1 @@
+"""What a group of tables leaves as it is: see leftalone.groups."""
