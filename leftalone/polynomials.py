@@ -29,10 +29,31 @@ def first_unknown(monomial):
 def times_row(polynomial, row):
     """The polynomial times the sum of the unknowns, each as many times as the row says."""
     product = {}
+    # Most tables are mostly 0, and monomials that come 0 times would be carried on through all degrees.
+    some = [i for i in range(len(row)) if row[i] != 0]
     for monomial in polynomial:
-        for i in range(len(row)):
+        for i in some:
             raised = with_more(monomial, i, 1)
             product[raised] = product.get(raised, 0) + polynomial[monomial] * row[i]
+    return product
+
+
+def polynomial_of(order, row):
+    """The polynomial that the row tells, a number for each monomial of the order."""
+    polynomial = {}
+    for j in range(len(order)):
+        if row[j] != 0:
+            polynomial[order[j]] = row[j]
+    return polynomial
+
+
+def product_of(a, b):
+    """One polynomial times the other."""
+    product = {}
+    for one in a:
+        for other in b:
+            both = tuple([one[i] + other[i] for i in range(len(one))])
+            product[both] = product.get(both, 0) + a[one] * b[other]
     return product
 
 

@@ -51,7 +51,7 @@ def fewest_rows(rows):
     and there all other rows have 0."""
     kept = []
     left = list(rows)
-    width = len(rows[0])
+    width = len(rows[0]) if rows else 0
     for place in range(width):
         k = place_of_one_with(left, place)
         if k is not None:
@@ -62,17 +62,23 @@ def fewest_rows(rows):
     return kept
 
 
-def first_number(row):
-    """The row's first number that isn't 0."""
+def first_place(row):
+    """The place of the row's first number that isn't 0."""
     place = 0
     while row[place] == 0:
         place += 1
-    return row[place]
+    return place
 
 
-def told_row(row):
-    """The row by its first number that isn't 0, two numbers for each of its fractions."""
-    below = first_number(row)
+def is_made_of(row, rows):
+    """Whether the row is a sum of the rows, each so many times; they are such as fewest_rows gives."""
+    for by in rows:
+        row = cleared(row, by, first_place(by))
+    return not any(row)
+
+
+def told_row(row, below):
+    """The row's numbers by below, which isn't 0, two numbers for each fraction."""
     told = []
     for number in row:
         told.extend(told_fraction(number, below))

@@ -1,7 +1,12 @@
-"""Another way to the same answers: what stays is found as what each told table moves to itself."""
+"""Another way to the same answers: what stays is found as what each told table moves to itself.
+
+Polynomials are multiplied by their values at as many points as there are monomials, which tell them apart.
+"""
 
 from fractions import Fraction
+from functools import lru_cache
 from itertools import product
+from math import prod
 
 LIMITS = {2: 8, 3: 5}
 
@@ -38,6 +43,7 @@ def monomials(n, d):
     return sorted(powers, reverse=True)
 
 
+@lru_cache(maxsize=None)
 def moved(n, table, monomial):
     """Every way to take one unknown out of each factor's row, added up."""
     rows = rows_of(n, table)
@@ -82,6 +88,12 @@ def kernel(rows, width):
     return found
 
 
+def moved_row(n, table, d, polynomial):
+    images = [(number, moved(n, table, m)) for number, m in zip(polynomial, monomials(n, d)) if number]
+    return [sum(number * image.get(m, 0) for number, image in images) for m in monomials(n, d)]
+
+
+@lru_cache(maxsize=None)
 def those_that_stay(n, told, d):
     order = monomials(n, d)
     equations = []
@@ -90,6 +102,25 @@ def those_that_stay(n, told, d):
         for m in order:
             equations.append([image.get(m, 0) - (m == of) for image, of in zip(images, order)])
     return echelon(kernel(equations, len(order)))
+
+
+def values(n, d, polynomial, points):
+    """The polynomial's values. With the monomials' own powers as points, they tell it apart from all others."""
+    order = monomials(n, d)
+    return [sum(number * prod(x ** power for x, power in zip(point, m)) for number, m in zip(polynomial, order))
+            for point in points]
+
+
+@lru_cache(maxsize=None)
+def values_made_of_lower(n, told, d):
+    points = monomials(n, d)
+    found = []
+    for a in range(1, d):
+        firsts = [values(n, a, row, points) for row in those_that_stay(n, told, a)]
+        seconds = [values(n, d - a, row, points) for row in those_that_stay(n, told, d - a)]
+        # Kept few on the way, for else there are many rows at the end.
+        found = echelon(found + [[x * y for x, y in zip(one, other)] for one in firsts for other in seconds])
+    return found
 
 
 class Line:
@@ -127,10 +158,43 @@ class Line:
     def counts(self, d):
         if not 0 <= d <= LIMITS[self.n]:
             return [-1]
-        return [len(those_that_stay(self.n, self.told, k)) for k in range(d + 1)]
+        return [len(those_that_stay(self.n, tuple(self.told), k)) for k in range(d + 1)]
 
     def stay(self, d):
         if not 0 <= d <= LIMITS[self.n]:
             return [-1]
-        rows = those_that_stay(self.n, self.told, d)
+        rows = those_that_stay(self.n, tuple(self.told), d)
         return [len(rows)] + [y for row in rows for x in row for y in (x.numerator, x.denominator)]
+
+    def is_wrong(self, d, polynomial):
+        return (not 0 <= d <= LIMITS[self.n] or len(polynomial) != len(monomials(self.n, d))
+                or not all(-1000 <= x <= 1000 for x in polynomial))
+
+    def mean(self, d, polynomial):
+        if self.is_wrong(d, polynomial):
+            return [-1]
+        found = monoid(self.n, self.told, 48)
+        images = [moved_row(self.n, table, d, polynomial) for table in found]
+        means = [Fraction(sum(column), len(found)) for column in zip(*images)]
+        return [y for x in means for y in (x.numerator, x.denominator)]
+
+    def stays(self, d, polynomial):
+        if self.is_wrong(d, polynomial):
+            return [-1]
+        return [int(all(moved_row(self.n, table, d, polynomial) == list(polynomial) for table in self.told))]
+
+    def fresh(self, d):
+        if not 0 <= d <= LIMITS[self.n]:
+            return [-1]
+        told = tuple(self.told)
+        return [0] + [len(those_that_stay(self.n, told, k)) - len(values_made_of_lower(self.n, told, k))
+                      for k in range(1, d + 1)]
+
+    def makes(self, d, polynomial):
+        if self.is_wrong(d, polynomial):
+            return [-1]
+        if self.stays(d, polynomial) == [0]:
+            return [-4]
+        made = values_made_of_lower(self.n, tuple(self.told), d)
+        also = values(self.n, d, polynomial, monomials(self.n, d))
+        return [int(len(echelon(made + [also])) == len(made))]
